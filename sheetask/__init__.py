@@ -1,0 +1,1 @@
+"""Sheetask: questions over tables, answered plainly and cleverly."""
