@@ -2,7 +2,7 @@
 
 from sheetask.conditions import columns_of
 from sheetask.errors import NoColumn, NoTable, NotAlike, TwoColumns
-from sheetask.places import inner_first, straight_within
+from sheetask.places import built_up
 
 
 def heads_of_table(tables, name):
@@ -52,16 +52,15 @@ def heads_over_two(question, heads, others):
     return each_once(heads + others)
 
 
-# The inner questions come first, so the first refusal met is the one that is asked for.
+# The heads of a question, where those of the questions straight within it are known.
+def heads_at(tables, question, within):
+    if len(within) == 0:
+        return heads_of_table(tables, question[1])
+    if len(within) == 1:
+        return heads_over_one(question, within[0])
+    return heads_over_two(question, within[0], within[1])
+
+
+# The work is done at the inner questions first, so the first refusal met is the one that is asked for.
 def heads_of(tables, question):
-    known = []
-    for place in inner_first(question):
-        count = len(straight_within(place))
-        if count == 0:
-            known.append(heads_of_table(tables, place[1]))
-        elif count == 1:
-            known.append(heads_over_one(place, known.pop()))
-        else:
-            others = known.pop()
-            known.append(heads_over_two(place, known.pop(), others))
-    return known[0]
+    return built_up(question, lambda place, within: heads_at(tables, place, within))

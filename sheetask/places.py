@@ -3,6 +3,18 @@
 TWOFOLD = ("pair", "join", "both")
 
 
+# A place with what is known there: the parts of its question that are no questions, word and all; the heads of its
+# answer; and the places straight within it.
+class Place:
+    def __init__(self, ahead, heads, within):
+        self.ahead = ahead
+        self.heads = heads
+        self.within = within
+        self.question = ahead + tuple([inner.question for inner in within])
+        # Whether it has been found that no turning can be done here or at any place within.
+        self.settled = False
+
+
 # Of every word the questions are the last parts; what stands ahead of them may look like one.
 def straight_within(question):
     if question[0] == "table":
@@ -22,3 +34,14 @@ def inner_first(question):
         places.append(place)
         waiting.extend(straight_within(place))
     return list(reversed(places))
+
+
+# What comes of a question, where the work at each place is told what came of the questions straight within it.
+def built_up(question, work):
+    done = []
+    for place in inner_first(question):
+        within = []
+        for inner in straight_within(place):
+            within.insert(0, done.pop())
+        done.append(work(place, within))
+    return done[0]

@@ -1,6 +1,6 @@
 import unittest
 
-from sheetask.places import inner_first, straight_within
+from sheetask.places import Place, built_up, inner_first, straight_within
 from sheetask.reading import read
 
 
@@ -37,6 +37,26 @@ class Places(unittest.TestCase):
         self.check("(cols table t (pick (not (less a b)) u))", [
             "u", "(pick (not (less a b)) u)", "(cols table t (pick (not (less a b)) u))",
         ])
+
+    def test_built_up_from_the_inner_ones(self):
+        def work(question, within):
+            return question[0] + str(within).replace("'", "")
+
+        self.assertEqual(built_up(read("t"), work), "table[]")
+        self.assertEqual(
+            built_up(read("(pair (sort a t) (both u (first 1 (group a b m s v))))"), work),
+            "pair[sort[table[]], both[table[], first[group[table[]]]]]",
+        )
+        self.assertEqual(built_up(read("(join a b t (pair u v))"), lambda question, within: within or question[1]),
+                         ["t", ["u", "v"]])
+
+    def test_a_place_knows_its_question(self):
+        table = Place(("table", "t"), ["a"], [])
+        self.assertEqual(table.question, ("table", "t"))
+        other = Place(("table", "u"), ["b"], [])
+        join = Place(("join", "a", "b"), ["a", "b"], [table, other])
+        self.assertEqual(join.question, ("join", "a", "b", ("table", "t"), ("table", "u")))
+        self.assertEqual(Place(("cols", ("a",)), ["a"], [join]).question, ("cols", ("a",), join.question))
 
 
 if __name__ == "__main__":
